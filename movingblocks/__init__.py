@@ -1,0 +1,1 @@
+"""Blocks of a moving picture: found, predicted, mended."""

@@ -1,0 +1,77 @@
+"""What several tests need: blocks and windows made by rule, and checks that hold for every call."""
+
+import contextlib
+import copy
+import io
+
+BLOCK = 256
+WINDOW = 48
+
+
+def points(count, seed, most=255):
+    """Numbers from 0 to most that look unordered, the same each time."""
+    state = seed
+    made = []
+    for _ in range(count):
+        state = (state * 1103515245 + 12345) % 2147483648
+        made.append((state >> 8) % (most + 1))
+    return made
+
+
+def put(window, block, row, column):
+    """A copy of the window in which the block lies at row and column."""
+    made = list(window)
+    for y in range(16):
+        for x in range(16):
+            made[(row + y) * WINDOW + column + x] = block[y * 16 + x]
+    return made
+
+
+def changed(numbers, place, number):
+    """A copy with another number at one place."""
+    made = list(numbers)
+    made[place] = number
+    return made
+
+
+class Untouched(list):
+    """A list that doesn't let itself be changed, not for a while either."""
+
+    def refuse(self, *args, **kwargs):
+        raise AssertionError("what was handed in is being changed")
+
+    __setitem__ = __delitem__ = __iadd__ = __imul__ = refuse
+    append = clear = extend = insert = pop = remove = reverse = sort = refuse
+
+
+class CallCase:
+    """Checks for a unittest.TestCase that hold for every call."""
+
+    def check_answer(self, call, handed, answer):
+        """The call gives back the answer, as a list of ints."""
+        given = call(*handed)
+        self.assertEqual(given, answer)
+        self.assertIs(type(given), list)
+        for number in given:
+            self.assertIs(type(number), int)
+
+    def check_manners(self, call, handed, others):
+        """Nothing handed in is changed, nothing is kept and nothing is printed.
+
+        others: values for a call in between, with another answer.
+        """
+        before = copy.deepcopy(handed)
+        printed = io.StringIO()
+        with contextlib.redirect_stdout(printed), contextlib.redirect_stderr(printed):
+            first = call(*handed)
+            kept = list(first)
+            self.assertEqual(handed, before)
+            self.assertNotEqual(call(*others), kept)
+            # Whoever has an answer may write into it: the next one is another list.
+            first.append(7)
+            first[0] = 99
+            self.assertEqual(call(*handed), kept)
+            self.assertEqual(handed, before)
+            guarded = [Untouched(x) if isinstance(x, list) else x for x in handed]
+            self.assertEqual(call(*guarded), kept)
+        self.assertEqual(printed.getvalue(), "")
