@@ -1,8 +1,14 @@
 """The calls on blocks: 16 rows of 16 points, row after row in one list."""
 
+DONE = 0
 REFUSED = -1
 
+LEAST_POINT = 0
+MOST_POINT = 255
+
 BLOCK_SIDE = 16
+# One row and one column more than a block: what lies between its last points leans on them.
+BETWEEN_SIDE = 17
 WINDOW_SIDE = 48
 # 48 - 16 + 1: a block that lay further on would reach over the window's end.
 PLACES_A_SIDE = 33
@@ -37,6 +43,29 @@ def least(n, l):
     return first_least(l)
 
 
+def between(across, down, a):
+    """The block that lies half a point further across, down or both, predicted from the points around."""
+    if across not in (0, 1) or down not in (0, 1):
+        return [REFUSED]
+    steps = steps_between(across, down)
+    answer = [DONE]
+    for y in range(BLOCK_SIDE):
+        for x in range(BLOCK_SIDE):
+            start = y * BETWEEN_SIDE + x
+            answer.append(rounded_mean([a[start + step] for step in steps]))
+    return answer
+
+
+def mean(a, b):
+    """The mean of two blocks, point by point."""
+    return [DONE] + [rounded_mean([p, q]) for p, q in zip(a, b)]
+
+
+def bright(by, a):
+    """A block made brighter, or darker where by is below 0."""
+    return [DONE] + [to_point(p + by) for p in a]
+
+
 def is_row_step(step):
     """Whether rows may lie this far apart."""
     return LEAST_ROW_STEP <= step and step <= MOST_ROW_STEP
@@ -60,3 +89,26 @@ def first_least(numbers):
     """The place of the least number, the first of several, then the number."""
     number = min(numbers)
     return [numbers.index(number), number]
+
+
+def steps_between(across, down):
+    """How far behind a point, in the list of 17 rows of 17, the points of its mean lie."""
+    steps = [0]
+    if across == 1:
+        steps.append(1)
+    if down == 1:
+        steps.append(BETWEEN_SIDE)
+    if across == 1 and down == 1:
+        steps.append(BETWEEN_SIDE + 1)
+    return steps
+
+
+def rounded_mean(numbers):
+    """The mean as the nearest whole number, a half rounded up."""
+    # Half the divisor ahead of the division, which rounds down, makes it round to the nearest.
+    return (sum(numbers) + len(numbers) // 2) // len(numbers)
+
+
+def to_point(number):
+    """The number itself, or the end of the points' range that it lies beyond."""
+    return max(LEAST_POINT, min(number, MOST_POINT))

@@ -15,6 +15,9 @@ INTERFACE = {
     "distance": ["a_row", "b_row", "a", "b"],
     "find": ["block", "window"],
     "least": ["n", "l"],
+    "between": ["across", "down", "a"],
+    "mean": ["a", "b"],
+    "bright": ["by", "a"],
 }
 
 # Of Python's own names those that neither read nor print nor reach other modules.
@@ -42,6 +45,9 @@ class Interface(unittest.TestCase):
         self.assertEqual(blocks.distance(a_row=16, b_row=16, a=[1] * 256, b=[2] * 256), [256])
         self.assertEqual(blocks.find(block=[1] * 256, window=[1] * 2304), [0, 0])
         self.assertEqual(blocks.least(n=2, l=[6, 5]), [1, 5])
+        self.assertEqual(blocks.between(across=0, down=1, a=([4] * 17 + [8] * 17) * 8 + [4] * 17), [0] + [6] * 256)
+        self.assertEqual(blocks.mean(a=[4] * 256, b=[8] * 256), [0] + [6] * 256)
+        self.assertEqual(blocks.bright(by=3, a=[4] * 256), [0] + [7] * 256)
 
 
 class Quiet(unittest.TestCase):
