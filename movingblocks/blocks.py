@@ -6,6 +6,11 @@ REFUSED = -1
 LEAST_POINT = 0
 MOST_POINT = 255
 
+LEAST_SHORT = -32768
+MOST_SHORT = 32767
+# What a short number is scaled by is told in parts of this many.
+SCALE_PARTS = 32768
+
 BLOCK_SIDE = 16
 # One row and one column more than a block: what lies between its last points leans on them.
 BETWEEN_SIDE = 17
@@ -66,6 +71,23 @@ def bright(by, a):
     return [DONE] + [to_point(p + by) for p in a]
 
 
+def rest(a, b):
+    """What is left over of a block where b predicts it."""
+    return [DONE] + [p - q for p, q in zip(a, b)]
+
+
+def mend(a, rest):
+    """A predicted block, with what was left over put back."""
+    return [DONE] + [to_point(p + number) for p, number in zip(a, rest)]
+
+
+def scale(by, a):
+    """Short numbers, each times by and divided by 32768."""
+    if by < LEAST_SHORT or by > MOST_SHORT:
+        return [REFUSED]
+    return [DONE] + [scaled(number, by) for number in a]
+
+
 def is_row_step(step):
     """Whether rows may lie this far apart."""
     return LEAST_ROW_STEP <= step and step <= MOST_ROW_STEP
@@ -112,3 +134,14 @@ def rounded_mean(numbers):
 def to_point(number):
     """The number itself, or the end of the points' range that it lies beyond."""
     return max(LEAST_POINT, min(number, MOST_POINT))
+
+
+def to_short(number):
+    """The number itself, or the end of the short numbers' range that it lies beyond."""
+    return max(LEAST_SHORT, min(number, MOST_SHORT))
+
+
+def scaled(number, by):
+    """The number times by, divided by 32768 and rounded to the nearest, a half upwards."""
+    # The division rounds down, below 0 too: with half the divisor ahead of it a half always goes upwards.
+    return to_short((number * by + SCALE_PARTS // 2) // SCALE_PARTS)

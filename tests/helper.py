@@ -3,9 +3,12 @@
 import contextlib
 import copy
 import io
+from fractions import Fraction
 
 BLOCK = 256
 WINDOW = 48
+# Short numbers: the ends, their neighbours, and what lies around 0 and around the halves of the range.
+EDGES = [-32768, -32767, -32766, -16385, -16384, -16383, -3, -2, -1, 0, 1, 2, 3, 16383, 16384, 16385, 32766, 32767]
 
 
 def points(count, seed, most=255):
@@ -16,6 +19,11 @@ def points(count, seed, most=255):
         state = (state * 1103515245 + 12345) % 2147483648
         made.append((state >> 8) % (most + 1))
     return made
+
+
+def shorts(count, seed):
+    """Numbers from -32768 to 32767 that look unordered, the same each time."""
+    return [number - 32768 for number in points(count, seed, 65535)]
 
 
 def put(window, block, row, column):
@@ -32,6 +40,23 @@ def changed(numbers, place, number):
     made = list(numbers)
     made[place] = number
     return made
+
+
+def nearest(fraction):
+    """The nearest whole number, a half rounded up."""
+    below = fraction.numerator // fraction.denominator
+    return below + 1 if fraction - below >= Fraction(1, 2) else below
+
+
+def scaled_by_fractions(number, by):
+    """A short number as scale is to answer it."""
+    whole = nearest(Fraction(number * by, 32768))
+    return 32767 if whole > 32767 else -32768 if whole < -32768 else whole
+
+
+def filled(numbers):
+    """The numbers, and zeros up to as many as a block has."""
+    return numbers + [0] * (BLOCK - len(numbers))
 
 
 class Untouched(list):

@@ -4,7 +4,7 @@ import unittest
 from fractions import Fraction
 
 from movingblocks.blocks import between
-from tests.helper import CallCase, changed, points
+from tests.helper import CallCase, changed, nearest, points
 
 SIDE = 17
 AREA = SIDE * SIDE
@@ -20,12 +20,6 @@ def area(point):
 def block(point):
     """0, then 16 rows of 16 points, each as point(x, y) tells it."""
     return [0] + [point(x, y) for y in range(16) for x in range(16)]
-
-
-def nearest(fraction):
-    """The nearest whole number, a half rounded up."""
-    below = fraction.numerator // fraction.denominator
-    return below + 1 if fraction - below >= Fraction(1, 2) else below
 
 
 def expected(across, down, a):

@@ -18,6 +18,9 @@ INTERFACE = {
     "between": ["across", "down", "a"],
     "mean": ["a", "b"],
     "bright": ["by", "a"],
+    "rest": ["a", "b"],
+    "mend": ["a", "rest"],
+    "scale": ["by", "a"],
 }
 
 # Of Python's own names those that neither read nor print nor reach other modules.
@@ -48,6 +51,9 @@ class Interface(unittest.TestCase):
         self.assertEqual(blocks.between(across=0, down=1, a=([4] * 17 + [8] * 17) * 8 + [4] * 17), [0] + [6] * 256)
         self.assertEqual(blocks.mean(a=[4] * 256, b=[8] * 256), [0] + [6] * 256)
         self.assertEqual(blocks.bright(by=3, a=[4] * 256), [0] + [7] * 256)
+        self.assertEqual(blocks.rest(a=[4] * 256, b=[9] * 256), [0] + [-5] * 256)
+        self.assertEqual(blocks.mend(a=[4] * 256, rest=[9] * 256), [0] + [13] * 256)
+        self.assertEqual(blocks.scale(by=-16384, a=[4] * 256), [0] + [-2] * 256)
 
 
 class Quiet(unittest.TestCase):
