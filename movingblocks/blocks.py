@@ -88,6 +88,21 @@ def scale(by, a):
     return [DONE] + [scaled(number, by) for number in a]
 
 
+def sum_of(a, b):
+    """The sums of short numbers, number by number."""
+    return [DONE] + [to_short(p + q) for p, q in zip(a, b)]
+
+
+def less(a, b):
+    """Short numbers a less b, number by number."""
+    return [DONE] + [to_short(p - q) for p, q in zip(a, b)]
+
+
+def narrow(a):
+    """Whole numbers made short ones, number by number."""
+    return [DONE] + [to_short(number) for number in a]
+
+
 def is_row_step(step):
     """Whether rows may lie this far apart."""
     return LEAST_ROW_STEP <= step and step <= MOST_ROW_STEP

@@ -26,6 +26,11 @@ def shorts(count, seed):
     return [number - 32768 for number in points(count, seed, 65535)]
 
 
+def wholes(count, seed):
+    """Numbers from -2147483648 to 2147483647 that look unordered, the same each time."""
+    return [65536 * high + low for high, low in zip(shorts(count, seed), points(count, seed + 1, 65535))]
+
+
 def put(window, block, row, column):
     """A copy of the window in which the block lies at row and column."""
     made = list(window)
@@ -48,10 +53,14 @@ def nearest(fraction):
     return below + 1 if fraction - below >= Fraction(1, 2) else below
 
 
+def held(number, least, most):
+    """The number, or the end that it lies beyond."""
+    return least if number < least else most if number > most else number
+
+
 def scaled_by_fractions(number, by):
     """A short number as scale is to answer it."""
-    whole = nearest(Fraction(number * by, 32768))
-    return 32767 if whole > 32767 else -32768 if whole < -32768 else whole
+    return held(nearest(Fraction(number * by, 32768)), -32768, 32767)
 
 
 def filled(numbers):

@@ -3,7 +3,7 @@
 import unittest
 
 from movingblocks.blocks import mend, rest
-from tests.helper import BLOCK, CallCase, changed, points, shorts
+from tests.helper import BLOCK, CallCase, changed, held, points, shorts
 
 EVERY = list(range(BLOCK))
 
@@ -31,11 +31,7 @@ class Sums(unittest.TestCase, CallCase):
     def test_unordered(self):
         a = points(BLOCK, 101)
         for left in (shorts(BLOCK, 102), [number // 128 for number in shorts(BLOCK, 103)]):
-            answer = [0]
-            for k in range(BLOCK):
-                total = a[k] + left[k]
-                answer.append(0 if total < 0 else 255 if total > 255 else total)
-            self.check_answer(mend, (a, left), answer)
+            self.check_answer(mend, (a, left), [0] + [held(a[k] + left[k], 0, 255) for k in range(BLOCK)])
 
     def test_each_point_at_its_own_place(self):
         for place in range(BLOCK):

@@ -21,6 +21,9 @@ INTERFACE = {
     "rest": ["a", "b"],
     "mend": ["a", "rest"],
     "scale": ["by", "a"],
+    "sum_of": ["a", "b"],
+    "less": ["a", "b"],
+    "narrow": ["a"],
 }
 
 # Of Python's own names those that neither read nor print nor reach other modules.
@@ -54,6 +57,9 @@ class Interface(unittest.TestCase):
         self.assertEqual(blocks.rest(a=[4] * 256, b=[9] * 256), [0] + [-5] * 256)
         self.assertEqual(blocks.mend(a=[4] * 256, rest=[9] * 256), [0] + [13] * 256)
         self.assertEqual(blocks.scale(by=-16384, a=[4] * 256), [0] + [-2] * 256)
+        self.assertEqual(blocks.sum_of(a=[4] * 256, b=[9] * 256), [0] + [13] * 256)
+        self.assertEqual(blocks.less(a=[4] * 256, b=[9] * 256), [0] + [-5] * 256)
+        self.assertEqual(blocks.narrow(a=[65536] * 256), [0] + [32767] * 256)
 
 
 class Quiet(unittest.TestCase):
