@@ -103,6 +103,21 @@ def narrow(a):
     return [DONE] + [to_short(number) for number in a]
 
 
+def scale8(a, by):
+    """Eight short numbers, each times its own number of by and divided by 32768."""
+    return [DONE] + [scaled(number, factor) for number, factor in zip(a, by)]
+
+
+def narrow8(a, b):
+    """Twice four whole numbers made eight short ones."""
+    return narrow(a + b)
+
+
+def points16(a, b):
+    """Twice eight short numbers made sixteen points."""
+    return [DONE] + [to_point(number) for number in a + b]
+
+
 def is_row_step(step):
     """Whether rows may lie this far apart."""
     return LEAST_ROW_STEP <= step and step <= MOST_ROW_STEP

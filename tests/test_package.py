@@ -24,6 +24,9 @@ INTERFACE = {
     "sum_of": ["a", "b"],
     "less": ["a", "b"],
     "narrow": ["a"],
+    "scale8": ["a", "by"],
+    "narrow8": ["a", "b"],
+    "points16": ["a", "b"],
 }
 
 # Of Python's own names those that neither read nor print nor reach other modules.
@@ -60,6 +63,9 @@ class Interface(unittest.TestCase):
         self.assertEqual(blocks.sum_of(a=[4] * 256, b=[9] * 256), [0] + [13] * 256)
         self.assertEqual(blocks.less(a=[4] * 256, b=[9] * 256), [0] + [-5] * 256)
         self.assertEqual(blocks.narrow(a=[65536] * 256), [0] + [32767] * 256)
+        self.assertEqual(blocks.scale8(a=[4] * 8, by=[-16384] * 8), [0] + [-2] * 8)
+        self.assertEqual(blocks.narrow8(a=[4] * 4, b=[65536] * 4), [0] + [4] * 4 + [32767] * 4)
+        self.assertEqual(blocks.points16(a=[4] * 8, b=[256] * 8), [0] + [4] * 8 + [255] * 8)
 
 
 class Quiet(unittest.TestCase):
