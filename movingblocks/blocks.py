@@ -23,6 +23,9 @@ MOST_ROW_STEP = 4096
 
 MOST_NUMBERS = 1024
 
+# One more than the greatest number that least8 takes: a place times this leaves room for the number below it.
+PLACE_UNIT = 65536
+
 
 def distance(a_row, b_row, a, b):
     """The sum of the differences between two blocks, without their signs."""
@@ -116,6 +119,12 @@ def narrow8(a, b):
 def points16(a, b):
     """Twice eight short numbers made sixteen points."""
     return [DONE] + [to_point(number) for number in a + b]
+
+
+def least8(a):
+    """The least of eight numbers and its place, in one number."""
+    found = first_least(a)
+    return [PLACE_UNIT * found[0] + found[1]]
 
 
 def is_row_step(step):

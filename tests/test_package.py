@@ -27,6 +27,7 @@ INTERFACE = {
     "scale8": ["a", "by"],
     "narrow8": ["a", "b"],
     "points16": ["a", "b"],
+    "least8": ["a"],
 }
 
 # Of Python's own names those that neither read nor print nor reach other modules.
@@ -44,6 +45,7 @@ def trees():
 class Interface(unittest.TestCase):
 
     def test_names_and_arguments(self):
+        self.assertEqual(len(INTERFACE), 16)
         for name, arguments in INTERFACE.items():
             parameters = inspect.signature(getattr(blocks, name)).parameters
             self.assertEqual(list(parameters), arguments)
@@ -66,6 +68,7 @@ class Interface(unittest.TestCase):
         self.assertEqual(blocks.scale8(a=[4] * 8, by=[-16384] * 8), [0] + [-2] * 8)
         self.assertEqual(blocks.narrow8(a=[4] * 4, b=[65536] * 4), [0] + [4] * 4 + [32767] * 4)
         self.assertEqual(blocks.points16(a=[4] * 8, b=[256] * 8), [0] + [4] * 8 + [255] * 8)
+        self.assertEqual(blocks.least8(a=[6, 5] * 4), [65541])
 
 
 class Quiet(unittest.TestCase):
